@@ -82,14 +82,14 @@ func recovery(g api.Group, node, t int, l ...api.Share) error {
 	return errors.Join(ofNodes(l...), apart(l...))
 }
 
-// ofOneNode tells which share is of another node than the first.
+// ofOneNode tells which share is of another node than the first, or of none: one number is not yet one node.
 func ofOneNode(l ...api.Share) error {
 	for i, x := range l {
 		if x.Node != l[0].Node {
 			return fault{"share " + strconv.Itoa(i), fault{"of another node", api.ErrArg}}
 		}
 	}
-	return nil
+	return ofNodes(l...)
 }
 
 // ofNodes tells which share's node may not be.

@@ -45,6 +45,7 @@ func TestFaultsSayWhatTheyAreAbout(t *testing.T) {
 		{dealings(g, good, api.Deal{}), "place 1: dealing: error 110"},
 		{ofNought(good), "place 0: not of nought: error 110"},
 		{ofOneNode(api.Share{Node: 1}, api.Share{Node: 2}), "share 1: of another node: error 2"},
+		{ofOneNode(api.Share{Node: 17}, api.Share{Node: 17}), "share 0: node 17: error 2"},
 		{recovery(g, 0, 6), "node 0: error 2\nbound 6: error 2"},
 		{recovery(g, 1, 1), "shares: only 0: error 100"},
 		{recovery(g, 1, 1, api.Share{}, api.Share{}), "share 0: node 0: error 2\nshare 1: the second of its node: error 100"},

@@ -137,7 +137,7 @@ func TestSumRefuses(t *testing.T) { // 12.1: the group, how many there are, the 
 	}
 }
 
-func TestSharesRefuses(t *testing.T) { // 12.1: the group, then none, too many, not all of one node
+func TestSharesRefuses(t *testing.T) { // 12.1: the group, then none, too many, not all of one node, one that may be
 	for _, g := range params(t) {
 		adds := func(what string, h api.Group, want api.Errno, l ...api.Share) {
 			t.Helper()
@@ -157,10 +157,14 @@ func TestSharesRefuses(t *testing.T) { // 12.1: the group, then none, too many, 
 		adds("another node at the end", g, api.ErrArg, of(3, 3, 3, 16)...)
 		adds("another node ahead", g, api.ErrArg, of(4, 3, 3)...)
 		adds("a node that may not be among others", g, api.ErrArg, of(3, 3, 0)...)
-		for _, no := range noNodes() { // the promise asks only that they be of one
-			x, e := joint.Shares(g, of(no, no)...)
-			if want := (api.Share{Node: no, S: limb.Of(1), T: limb.Of(14)}); x != want || e != api.OK {
-				t.Errorf("node %d: %v, error %d", no, x, e)
+		for _, no := range noNodes() { // a number that is no node's, however often
+			adds("no node", g, api.ErrArg, api.Share{Node: no})
+			adds("no node, some times", g, api.ErrArg, of(no, no, no)...)
+			adds("no node, and one behind", g, api.ErrArg, of(no, 1)...)
+			adds("no node, too many", g, api.ErrArg, slices.Repeat(of(no), api.MaxNodes+1)...)
+			adds("no node modulo a small number", modulo(1162079267, 4, 9), api.ErrArg, api.Share{Node: no})
+			for _, not := range noGroups(g) {
+				adds("no group, no node", not, api.ErrGroup, of(no)...)
 			}
 		}
 	}
